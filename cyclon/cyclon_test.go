@@ -7,30 +7,15 @@ import (
 	"testing"
 
 	"grapevine/api"
+	"grapevine/desctest"
 )
 
-func span(from, to int32) api.Span {
-	return api.Span{From: from, To: to}
-}
-
-// full is a descriptor with a filter that tells it from others.
-func full(node uint8, inc uint16, age uint8) api.Desc {
-	return api.Desc{Node: node, Inc: inc, Age: age, Filter: api.Filter{span(int32(node), int32(inc)), span(int32(age), 7)}}
-}
-
-// bare is a descriptor without a filter.
-func bare(node uint8, inc uint16, age uint8) api.Desc {
-	return api.Desc{Node: node, Inc: inc, Age: age}
-}
-
-// list is descriptors of these nodes, of incarnation 1 and age 4.
-func list(nodes ...uint8) []api.Desc {
-	out := []api.Desc{}
-	for _, node := range nodes {
-		out = append(out, full(node, 1, 4))
-	}
-	return out
-}
+var (
+	span = desctest.Span
+	full = desctest.Full
+	bare = desctest.Bare
+	list = desctest.List
+)
 
 // upTo is a list of the nodes from 0 on, so many.
 func upTo(many int) []api.Desc {
@@ -39,51 +24,6 @@ func upTo(many int) []api.Desc {
 		out = append(out, full(uint8(node), uint16(1+node%3), uint8(node*7)))
 	}
 	return out
-}
-
-func sameDesc(a, b api.Desc) bool {
-	return a.Node == b.Node && a.Inc == b.Inc && a.Age == b.Age && slices.Equal(a.Filter, b.Filter)
-}
-
-func sameList(a, b []api.Desc) bool {
-	return slices.EqualFunc(a, b, sameDesc)
-}
-
-// copied is a list in memory of its own, made without the packages.
-func copied(l []api.Desc) []api.Desc {
-	out := []api.Desc{}
-	for _, d := range l {
-		d.Filter = append(api.Filter{}, d.Filter...)
-		out = append(out, d)
-	}
-	return out
-}
-
-// find is where the node stands in l, or -1.
-func find(l []api.Desc, node uint8) int {
-	return slices.IndexFunc(l, func(d api.Desc) bool { return d.Node == node })
-}
-
-// without is l without the node.
-func without(l []api.Desc, node uint8) []api.Desc {
-	return slices.DeleteFunc(copied(l), func(d api.Desc) bool { return d.Node == node })
-}
-
-// with is l with d, in the place of that of its node or where it belongs.
-func with(l []api.Desc, d api.Desc) []api.Desc {
-	out := append(without(l, d.Node), d)
-	slices.SortFunc(out, func(a, b api.Desc) int { return int(a.Node) - int(b.Node) })
-	return out
-}
-
-// isView is the term of layer 9 by itself.
-func isView(l []api.Desc, self uint8, room int) bool {
-	for i := range l {
-		if l[i].Node == self || l[i].Inc < 1 || i > 0 && l[i-1].Node >= l[i].Node {
-			return false
-		}
-	}
-	return room >= 0 && len(l) <= room
 }
 
 // pick is the chapter's term by itself: what was picked is marked, and each draw counts over what is not.
@@ -113,60 +53,24 @@ func pick(l []api.Desc, many int, not uint8, draws []uint32) []api.Desc {
 	return out
 }
 
-// accepts is what desc.Put does, by itself.
-func accepts(l []api.Desc, d api.Desc, self uint8, room int) bool {
-	if d.Node == self || d.Inc == 0 {
-		return false
-	}
-	if at := find(l, d.Node); at >= 0 {
-		return d.Inc > l[at].Inc || d.Inc == l[at].Inc && d.Age < l[at].Age
-	}
-	return len(l) < room
-}
-
 // merge is the chapter's term by itself: each of sent is looked at anew, and is marked when it was dropped.
 func merge(l, got, sent []api.Desc, self uint8, room int) []api.Desc {
-	out, dropped := copied(l), make([]bool, len(sent))
+	out, dropped := desctest.Copied(l), make([]bool, len(sent))
 	for _, d := range got {
-		if accepts(out, d, self, room) {
-			out = with(out, d)
+		if desctest.Accepts(out, d, self, room) {
+			out = desctest.With(out, d)
 			continue
 		}
-		if d.Node == self || d.Inc < 1 || find(out, d.Node) >= 0 {
+		if d.Node == self || d.Inc < 1 || desctest.Find(out, d.Node) >= 0 {
 			continue
 		}
 		for i, s := range sent {
-			if !dropped[i] && find(out, s.Node) >= 0 && find(got, s.Node) < 0 {
+			if !dropped[i] && desctest.Find(out, s.Node) >= 0 && desctest.Find(got, s.Node) < 0 {
 				dropped[i] = true
-				out = with(without(out, s.Node), d)
+				out = desctest.With(desctest.Without(out, s.Node), d)
 				break
 			}
 		}
-	}
-	return out
-}
-
-// someView is a drawn view for self and that room of nodes below the bound.
-func someView(draw *rand.Rand, self uint8, room, bound int) []api.Desc {
-	out := []api.Desc{}
-	for _, node := range draw.Perm(bound)[:min(room, bound)] {
-		if node != int(self) && draw.Intn(6) > 0 {
-			out = append(out, full(uint8(node), uint16(1+draw.Intn(3)), uint8(draw.Intn(4))))
-		}
-	}
-	slices.SortFunc(out, func(a, b api.Desc) int { return int(a.Node) - int(b.Node) })
-	return out
-}
-
-// someList is a drawn list of any descriptors: in no order, some nodes several times, and some without an incarnation.
-func someList(draw *rand.Rand, many, bound int) []api.Desc {
-	out := []api.Desc{}
-	for range draw.Intn(many + 1) {
-		d := full(uint8(draw.Intn(bound)), uint16(draw.Intn(4)), uint8(draw.Intn(4)))
-		if draw.Intn(8) == 0 {
-			d.Filter = nil
-		}
-		out = append(out, d)
 	}
 	return out
 }
@@ -203,7 +107,7 @@ func TestPick(t *testing.T) {
 		{four, 2, 9, nil, nil}, {four, 2, 9, []uint32{}, nil}, {four, 3, 9, []uint32{2}, list(3)}, {four, 3, 9, []uint32{2, 0}, list(3, 1)},
 		{four, 5, 9, []uint32{0, 0, 0, 0, 0}, four}, {four, math.MaxInt, 9, []uint32{0, 0, 0, 0, 0, 9}, four}, {nil, 2, 9, []uint32{1, 1}, nil}, {[]api.Desc{}, 2, 9, []uint32{1, 1}, nil}, {list(9), 2, 9, []uint32{1, 1}, nil}, {list(8), 2, 9, []uint32{1, 1}, list(8)},
 	} {
-		if got := Pick(x.l, x.many, x.not, x.draws); !sameList(got, x.want) {
+		if got := Pick(x.l, x.many, x.not, x.draws); !desctest.Same(got, x.want) {
 			t.Error(i, x, got)
 		}
 	}
@@ -212,7 +116,7 @@ func TestPick(t *testing.T) {
 func TestWhatIsPickedIsWhole(t *testing.T) {
 	l := []api.Desc{{Node: 1, Inc: 7, Age: 255, Filter: api.Filter{span(-1, 1)}}, {Node: 4, Inc: api.MaxInc}, {Node: 6, Inc: 1, Filter: api.Filter{span(3, 2), span(5, 5)}}}
 	got := Pick(l, 3, 9, []uint32{2, 0, 0})
-	if !sameList(got, []api.Desc{l[2], l[0], l[1]}) {
+	if !desctest.Same(got, []api.Desc{l[2], l[0], l[1]}) {
 		t.Error(got)
 	}
 }
@@ -225,7 +129,7 @@ func TestPickOfSmallLists(t *testing.T) {
 				for code := range 5 * 5 * 5 * 5 {
 					draws := []uint32{uint32(code % 5), uint32(code / 5 % 5), uint32(code / 25 % 5), uint32(code / 125)}
 					for _, some := range [][]uint32{draws, draws[:code%4]} {
-						if got := Pick(l, many, not, some); !sameList(got, pick(l, many, not, some)) {
+						if got := Pick(l, many, not, some); !desctest.Same(got, pick(l, many, not, some)) {
 							t.Fatal(l, many, not, some, got)
 						}
 					}
@@ -239,7 +143,7 @@ func TestPickOfLongLists(t *testing.T) {
 	draw := rand.New(rand.NewSource(1))
 	for range 400 {
 		l, many, not, draws := upTo(draw.Intn(256)), draw.Intn(260), uint8(draw.Intn(256)), someDraws(draw, 300)
-		if got := Pick(l, many, not, draws); !sameList(got, pick(l, many, not, draws)) {
+		if got := Pick(l, many, not, draws); !desctest.Same(got, pick(l, many, not, draws)) {
 			t.Fatal(l, many, not, draws, got)
 		}
 	}
@@ -265,7 +169,7 @@ func TestAsk(t *testing.T) {
 		{[]api.Desc{full(1, 1, 0), full(255, 2, 255)}, 3, []uint32{1, 0}, 255, []api.Desc{me, full(1, 1, 0)}}, {[]api.Desc{full(0, 1, 0)}, 3, []uint32{1}, 0, []api.Desc{me}},
 	} {
 		node, sent, ok := Ask(x.l, me, x.many, x.draws)
-		if node != x.node || !sameList(sent, x.sent) || !ok {
+		if node != x.node || !desctest.Same(sent, x.sent) || !ok {
 			t.Error(i, x, node, sent, ok)
 		}
 	}
@@ -291,7 +195,7 @@ func TestAskSendsItselfYoung(t *testing.T) {
 		want := me
 		want.Age = 0
 		_, sent, ok := Ask(list(1, 2, 3), me, 2, []uint32{1})
-		if !ok || !sameList(sent, []api.Desc{want, full(3, 1, 4)}) {
+		if !ok || !desctest.Same(sent, []api.Desc{want, full(3, 1, 4)}) {
 			t.Error(me, sent, ok)
 		}
 	}
@@ -301,7 +205,7 @@ func TestAskOfDrawnViews(t *testing.T) {
 	draw := rand.New(rand.NewSource(2))
 	for range 2000 {
 		room := draw.Intn(12)
-		l, me, many, draws := someView(draw, 5, room, 12), full(5, 2, 9), draw.Intn(14)-1, someDraws(draw, 14)
+		l, me, many, draws := desctest.View(draw, 5, room, 12), full(5, 2, 9), draw.Intn(14)-1, someDraws(draw, 14)
 		node, sent, ok := Ask(l, me, many, draws)
 		if len(l) == 0 || many < 1 {
 			if node != 0 || len(sent) != 0 || ok {
@@ -312,7 +216,7 @@ func TestAskOfDrawnViews(t *testing.T) {
 		oldest := slices.MaxFunc(l, func(a, b api.Desc) int { return int(a.Age) - int(b.Age) }) // the first one of several
 		want := append([]api.Desc{full(5, 2, 9)}, pick(l, many-1, oldest.Node, draws)...)
 		want[0].Age = 0
-		if node != oldest.Node || !sameList(sent, want) || !ok {
+		if node != oldest.Node || !desctest.Same(sent, want) || !ok {
 			t.Fatal(l, many, draws, node, sent, ok)
 		}
 	}
@@ -330,13 +234,13 @@ func TestMerge(t *testing.T) {
 	}{
 		{three, list(4, 5), sent, 3, []api.Desc{three[0], three[1], full(4, 1, 4)}},
 		{three, list(4, 5), sent, 4, []api.Desc{three[0], three[1], full(4, 1, 4), full(5, 1, 4)}},
-		{three, list(4, 5), sent, 5, append(copied(three), list(4, 5)...)}, {three, list(4), sent, math.MaxInt, append(copied(three), list(4)...)},
+		{three, list(4, 5), sent, 5, append(desctest.Copied(three), list(4, 5)...)}, {three, list(4), sent, math.MaxInt, append(desctest.Copied(three), list(4)...)},
 		{three, list(5, 4), sent, 3, []api.Desc{three[0], three[1], full(5, 1, 4)}},
 		{three, list(4, 5), nil, 3, three}, {three, list(4, 5), list(9), 3, three}, {three, nil, sent, 3, three}, {three, nil, nil, 9, three}, {nil, nil, sent, 3, nil},
 		{nil, list(4, 2), sent, 3, list(2, 4)}, {nil, list(4, 2, 7), sent, 2, list(2, 4)}, {nil, list(4, 2, 7), list(4, 2), 2, list(2, 4)}, {nil, list(4), sent, 0, nil}, {nil, list(4), sent, -1, nil}, {nil, list(4), sent, math.MinInt, nil},
 		{three, list(4, 5, 6, 7), list(1, 2, 3), 3, list(4, 5, 6)}, {three, list(4, 5), list(3, 1, 2), 3, []api.Desc{three[1], full(4, 1, 4), full(5, 1, 4)}}, {three, list(0, 4), list(2, 1), 3, []api.Desc{full(0, 1, 4), three[2], full(4, 1, 4)}},
 	} {
-		if got := Merge(x.l, x.got, x.sent, 9, x.room); !sameList(got, x.want) {
+		if got := Merge(x.l, x.got, x.sent, 9, x.room); !desctest.Same(got, x.want) {
 			t.Error(i, x, got)
 		}
 	}
@@ -350,7 +254,7 @@ func TestNewerOnesTakeTheirPlace(t *testing.T) {
 	} {
 		for _, room := range []int{2, 3} {
 			// What was sent may not make room for a node that is there.
-			if got := Merge(l, []api.Desc{x.d}, list(9, 1, 2), 9, room); !sameList(got, []api.Desc{l[0], x.want}) {
+			if got := Merge(l, []api.Desc{x.d}, list(9, 1, 2), 9, room); !desctest.Same(got, []api.Desc{l[0], x.want}) {
 				t.Error(i, x, room, got)
 			}
 		}
@@ -361,13 +265,13 @@ func TestNothingIsDroppedForWhatMayNotBe(t *testing.T) {
 	l := list(1, 2, 3)
 	for i, got := range [][]api.Desc{{full(9, 5, 0)}, {full(4, 0, 0)}, {bare(4, 0, 0), full(9, 1, 0)}, {full(1, 1, 4)}, {full(1, 0, 0), full(2, 1, 9)}, {{}}} {
 		for _, room := range []int{3, 4} {
-			if out := Merge(l, got, list(3, 2), 9, room); !sameList(out, l) {
+			if out := Merge(l, got, list(3, 2), 9, room); !desctest.Same(out, l) {
 				t.Error(i, got, room, out)
 			}
 		}
 	}
 	// And it is still there to be dropped for the next one.
-	if out := Merge(l, []api.Desc{full(9, 5, 0), full(4, 0, 0), full(1, 1, 9), full(5, 1, 4)}, list(3, 2), 9, 3); !sameList(out, list(1, 2, 5)) {
+	if out := Merge(l, []api.Desc{full(9, 5, 0), full(4, 0, 0), full(1, 1, 9), full(5, 1, 4)}, list(3, 2), 9, 3); !desctest.Same(out, list(1, 2, 5)) {
 		t.Error(out)
 	}
 }
@@ -382,7 +286,7 @@ func TestWhatWasGotIsNotDropped(t *testing.T) {
 		{[]api.Desc{full(4, 1, 4), full(5, 1, 4)}, list(3, 4, 5), list(1, 2, 4)}, {[]api.Desc{full(4, 1, 4), full(5, 1, 4), full(4, 1, 3)}, list(3, 4, 5), []api.Desc{full(1, 1, 4), full(2, 1, 4), full(4, 1, 3)}},
 		{[]api.Desc{full(9, 1, 0), full(4, 1, 4)}, list(9, 3), list(1, 2, 4)},
 	} {
-		if got := Merge(l, x.got, x.sent, 9, 3); !sameList(got, x.want) {
+		if got := Merge(l, x.got, x.sent, 9, 3); !desctest.Same(got, x.want) {
 			t.Error(i, x, got)
 		}
 	}
@@ -398,7 +302,7 @@ func TestSentInItsOrder(t *testing.T) {
 		{[]api.Desc{full(6, 1, 4), full(6, 1, 3), full(7, 1, 4)}, list(4, 1), []api.Desc{full(2, 1, 4), full(3, 1, 4), full(6, 1, 3), full(7, 1, 4)}},
 		{list(6), []api.Desc{full(2, 0, 0), full(1, 1, 4)}, list(1, 3, 4, 6)}, {list(6), []api.Desc{full(2, 7, 9)}, list(1, 3, 4, 6)}, {list(6), []api.Desc{bare(3, 1, 4)}, list(1, 2, 4, 6)},
 	} {
-		if got := Merge(l, x.got, x.sent, 9, 4); !sameList(got, x.want) {
+		if got := Merge(l, x.got, x.sent, 9, 4); !desctest.Same(got, x.want) {
 			t.Error(i, x, got)
 		}
 	}
@@ -408,8 +312,8 @@ func TestMergeOfDrawnViews(t *testing.T) {
 	draw := rand.New(rand.NewSource(3))
 	for range 20000 {
 		self, room, bound := uint8(draw.Intn(9)), draw.Intn(8), 3+draw.Intn(9)
-		l, got, sent := someView(draw, self, room, bound), someList(draw, 6, bound), someList(draw, 6, bound)
-		if out := Merge(l, got, sent, self, room); !sameList(out, merge(l, got, sent, self, room)) {
+		l, got, sent := desctest.View(draw, self, room, bound), desctest.Any(draw, 6, bound), desctest.Any(draw, 6, bound)
+		if out := Merge(l, got, sent, self, room); !desctest.Same(out, merge(l, got, sent, self, room)) {
 			t.Fatal(l, got, sent, self, room, out)
 		}
 	}
@@ -419,8 +323,8 @@ func TestMergeOfLongLists(t *testing.T) {
 	draw := rand.New(rand.NewSource(4))
 	for range 60 {
 		self, room := uint8(draw.Intn(256)), draw.Intn(256)
-		l, got, sent := someView(draw, self, room, 256), someList(draw, 255, 256), someList(draw, 255, 256)
-		if out := Merge(l, got, sent, self, room); !sameList(out, merge(l, got, sent, self, room)) {
+		l, got, sent := desctest.View(draw, self, room, 256), desctest.Any(draw, 255, 256), desctest.Any(draw, 255, 256)
+		if out := Merge(l, got, sent, self, room); !desctest.Same(out, merge(l, got, sent, self, room)) {
 			t.Fatal(l, got, sent, self, room, out)
 		}
 	}
@@ -432,25 +336,25 @@ func TestConsequences(t *testing.T) {
 	draw := rand.New(rand.NewSource(5))
 	for range 20000 {
 		self, room, bound := uint8(draw.Intn(9)), draw.Intn(8), 3+draw.Intn(9)
-		l, got, sent := someView(draw, self, room, bound), someList(draw, 6, bound), someList(draw, 6, bound)
+		l, got, sent := desctest.View(draw, self, room, bound), desctest.Any(draw, 6, bound), desctest.Any(draw, 6, bound)
 		out := Merge(l, got, sent, self, room)
-		if !isView(out, self, room) {
+		if !desctest.IsView(out, self, room) {
 			t.Fatal("no view", l, got, sent, self, room, out)
 		}
 		spare := len(out) < room
 		for _, d := range out {
-			if find(l, d.Node) < 0 && find(got, d.Node) < 0 {
+			if desctest.Find(l, d.Node) < 0 && desctest.Find(got, d.Node) < 0 {
 				t.Fatal("from nowhere", l, got, sent, self, room, out)
 			}
-			spare = spare || find(sent, d.Node) >= 0 && find(got, d.Node) < 0
+			spare = spare || desctest.Find(sent, d.Node) >= 0 && desctest.Find(got, d.Node) < 0
 		}
 		for _, d := range got {
-			if spare && d.Node != self && d.Inc > 0 && find(out, d.Node) < 0 {
+			if spare && d.Node != self && d.Inc > 0 && desctest.Find(out, d.Node) < 0 {
 				t.Fatal("got, and lost", l, got, sent, self, room, out)
 			}
 		}
 		for _, d := range l {
-			if find(out, d.Node) < 0 && find(sent, d.Node) < 0 {
+			if desctest.Find(out, d.Node) < 0 && desctest.Find(sent, d.Node) < 0 {
 				t.Fatal("dropped without being sent", l, got, sent, self, room, out)
 			}
 		}
@@ -461,17 +365,17 @@ func TestConsequences(t *testing.T) {
 func TestShuffle(t *testing.T) {
 	a, b := list(1, 2, 3, 4), list(0, 5, 6)
 	node, sent, ok := Ask(a, full(0, 1, 0), 3, []uint32{2, 0})
-	if node != 1 || !ok || !sameList(sent, []api.Desc{full(0, 1, 0), full(4, 1, 4), full(2, 1, 4)}) {
+	if node != 1 || !ok || !desctest.Same(sent, []api.Desc{full(0, 1, 0), full(4, 1, 4), full(2, 1, 4)}) {
 		t.Fatal(node, sent, ok)
 	}
 	back := Pick(b, 3, 0, []uint32{1, 0, 0})
-	if !sameList(back, list(6, 5)) {
+	if !desctest.Same(back, list(6, 5)) {
 		t.Fatal(back)
 	}
-	if got := Merge(b, sent, back, 1, 3); !sameList(got, []api.Desc{full(0, 1, 0), full(2, 1, 4), full(4, 1, 4)}) {
+	if got := Merge(b, sent, back, 1, 3); !desctest.Same(got, []api.Desc{full(0, 1, 0), full(2, 1, 4), full(4, 1, 4)}) {
 		t.Error(got)
 	}
-	if got := Merge(a, back, sent, 0, 4); !sameList(got, list(1, 3, 5, 6)) {
+	if got := Merge(a, back, sent, 0, 4); !desctest.Same(got, list(1, 3, 5, 6)) {
 		t.Error(got)
 	}
 }
@@ -482,7 +386,7 @@ func TestOtherListsReturn(t *testing.T) {
 	draw := rand.New(rand.NewSource(6))
 	rooms := []int{math.MinInt, -1, 0, 1, 3, 255, 256, math.MaxInt}
 	for range 300 {
-		l, got, sent := someList(draw, 30, 256), someList(draw, 30, 256), someList(draw, 30, 256)
+		l, got, sent := desctest.Any(draw, 30, 256), desctest.Any(draw, 30, 256), desctest.Any(draw, 30, 256)
 		for _, room := range rooms {
 			Merge(l, got, sent, uint8(draw.Intn(256)), room)
 			Merge(nil, l, sent, 0, room)
@@ -499,46 +403,12 @@ func TestOtherListsReturn(t *testing.T) {
 }
 
 func TestThatNodeIsNowherePicked(t *testing.T) {
-	if got := Pick(list(3, 1, 3, 2, 3), 5, 3, []uint32{0, 0, 0, 0, 0}); !sameList(got, list(1, 2)) {
+	if got := Pick(list(3, 1, 3, 2, 3), 5, 3, []uint32{0, 0, 0, 0, 0}); !desctest.Same(got, list(1, 2)) {
 		t.Error(got)
 	}
 }
 
 // R3
-
-// roomy returns l as a slice with spare capacity, its filters, too, and all its memory.
-func roomy(l []api.Desc) (part, whole []api.Desc) {
-	whole = append(copied(l), full(9, 9, 9), full(9, 9, 9), full(9, 9, 9))
-	for i := range l {
-		f := whole[i].Filter
-		whole[i].Filter = append(f, span(77, 77), span(77, 77))[:len(f)]
-	}
-	return whole[:len(l)], whole
-}
-
-// memory is all of the memory of a list as one text of numbers.
-func memory(l []api.Desc) []int64 {
-	var out []int64
-	for _, d := range l[:cap(l)] {
-		out = append(out, int64(d.Node), int64(d.Inc), int64(d.Age), int64(len(d.Filter)), int64(cap(d.Filter)))
-		for _, s := range d.Filter[:cap(d.Filter)] {
-			out = append(out, int64(s.From), int64(s.To))
-		}
-	}
-	return out
-}
-
-// spoil writes x into all of the memory of a list, and of its filters.
-func spoil(l []api.Desc, x uint8) {
-	l = l[:cap(l)]
-	for i := range l {
-		f := l[i].Filter[:cap(l[i].Filter)]
-		for j := range f {
-			f[j] = span(int32(x), -int32(x))
-		}
-		l[i] = api.Desc{Node: x, Inc: uint16(x), Age: x, Filter: f}
-	}
-}
 
 // results are the lists that all functions return for these.
 func results(l, got, sent []api.Desc, self api.Desc, draws []uint32) [][]api.Desc {
@@ -550,99 +420,21 @@ func results(l, got, sent []api.Desc, self api.Desc, draws []uint32) [][]api.Des
 	}
 }
 
-// eachCase calls f for drawn views and lists, each as a slice with spare capacity.
-func eachCase(f func(l, got, sent, self []api.Desc, draws []uint32)) {
+func TestMemory(t *testing.T) {
 	draw := rand.New(rand.NewSource(7))
 	for range 300 {
-		parts := [][]api.Desc{someView(draw, 5, 6, 10), someList(draw, 6, 10), someList(draw, 6, 10), {full(5, 2, 9)}}
-		for i := range parts {
-			parts[i], _ = roomy(parts[i])
-		}
-		f(parts[0], parts[1], parts[2], parts[3], someDraws(draw, 9))
-	}
-}
-
-func TestArgumentsStay(t *testing.T) {
-	eachCase(func(l, got, sent, self []api.Desc, draws []uint32) {
-		given := [][]api.Desc{l, got, sent, self}
-		var before [][]int64
-		for _, x := range given {
-			before = append(before, memory(x))
-		}
+		draws := append(someDraws(draw, 9), 1, 2)
+		draws = draws[:len(draws)-2]
 		were := slices.Clone(draws[:cap(draws)])
-		for i, out := range results(l, got, sent, self[0], draws) {
-			spoil(out, uint8(80+i))
-		}
-		for i, x := range given {
-			if !slices.Equal(memory(x), before[i]) {
-				t.Fatal("an argument was changed, or is shared", i, x)
-			}
+		args := [][]api.Desc{desctest.View(draw, 5, 6, 10), desctest.Any(draw, 6, 10), desctest.Any(draw, 6, 10), {full(5, 2, 9)}}
+		fault := desctest.Fault(args, func(args [][]api.Desc) [][]api.Desc {
+			return results(args[0], args[1], args[2], args[3][0], draws)
+		})
+		if fault != "" {
+			t.Fatal(fault, args, draws)
 		}
 		if !slices.Equal(draws[:cap(draws)], were) {
 			t.Fatal("draws were changed", were, draws)
 		}
-	})
-}
-
-func TestResultsAreTheirOwn(t *testing.T) {
-	eachCase(func(l, got, sent, self []api.Desc, draws []uint32) {
-		first := results(l, got, sent, self[0], draws)
-		want := results(copied(l), copied(got), copied(sent), copied(self)[0], draws)
-		for _, x := range [][]api.Desc{l, got, sent, self} {
-			spoil(x, 70)
-		}
-		for i := range first {
-			if !sameList(first[i], want[i]) {
-				t.Fatal("memory of an argument", i, first[i], want[i])
-			}
-		}
-		for i, out := range first {
-			spoil(out, uint8(80+i))
-			for j := i + 1; j < len(first); j++ {
-				if !sameList(first[j], want[j]) {
-					t.Fatal("memory of another result", i, j)
-				}
-			}
-		}
-	})
-}
-
-func TestFiltersOfOneResultAreApart(t *testing.T) {
-	shared := api.Filter{span(1, 1), span(2, 2)}
-	l, got := list(1, 2, 3), list(4, 6)
-	for _, x := range [][]api.Desc{l, got} {
-		for i := range x {
-			x[i].Filter = shared
-		}
 	}
-	self := api.Desc{Node: 5, Inc: 1, Filter: shared}
-	for i, out := range results(l, got, list(2), self, []uint32{1, 1, 1}) {
-		for j := range out {
-			f := out[j].Filter[:cap(out[j].Filter)]
-			for k := range f {
-				f[k] = span(9, 9)
-			}
-			for k := j + 1; k < len(out); k++ {
-				if !slices.Equal(out[k].Filter, api.Filter{span(1, 1), span(2, 2)}) {
-					t.Fatal(i, j, k, out)
-				}
-			}
-		}
-	}
-	if !slices.Equal(shared, api.Filter{span(1, 1), span(2, 2)}) {
-		t.Error(shared)
-	}
-}
-
-// R4
-
-func TestTheSameAgain(t *testing.T) {
-	eachCase(func(l, got, sent, self []api.Desc, draws []uint32) {
-		first, second := results(l, got, sent, self[0], draws), results(l, got, sent, self[0], draws)
-		for i := range first {
-			if !sameList(first[i], second[i]) {
-				t.Fatal(i, first[i], second[i])
-			}
-		}
-	})
 }

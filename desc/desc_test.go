@@ -7,21 +7,14 @@ import (
 	"testing"
 
 	"grapevine/api"
+	"grapevine/desctest"
 )
 
-func span(from, to int32) api.Span {
-	return api.Span{From: from, To: to}
-}
-
-// desc is a descriptor with a filter that tells it from others.
-func desc(node uint8, inc uint16, age uint8) api.Desc {
-	return api.Desc{Node: node, Inc: inc, Age: age, Filter: api.Filter{span(int32(node), int32(inc)), span(int32(age), 7)}}
-}
-
-// bare is a descriptor without a filter.
-func bare(node uint8, inc uint16, age uint8) api.Desc {
-	return api.Desc{Node: node, Inc: inc, Age: age}
-}
+var (
+	span = desctest.Span
+	desc = desctest.Full
+	bare = desctest.Bare
+)
 
 var (
 	nodes = []uint8{0, 1, 2, 11, 12, 127, 128, 254, 255}
@@ -38,113 +31,17 @@ func filters() []api.Filter {
 	}
 }
 
-// sameSpans is the same of two filters, span by span.
-func sameSpans(a, b api.Filter) bool {
-	if len(a) != len(b) {
-		return false
-	}
-	for i := range a {
-		if a[i].From != b[i].From || a[i].To != b[i].To {
-			return false
-		}
-	}
-	return true
-}
-
-// same is the chapter's term by itself.
-func same(a, b api.Desc) bool {
-	return a.Node == b.Node && a.Inc == b.Inc && a.Age == b.Age && sameSpans(a.Filter, b.Filter)
-}
-
-// sameLists reports whether a and b have the same descriptors.
-func sameLists(a, b []api.Desc) bool {
-	return slices.EqualFunc(a, b, same)
-}
-
-// copied is a list in memory of its own, made without the package.
-func copied(l []api.Desc) []api.Desc {
-	var out []api.Desc
-	for _, d := range l {
-		var f api.Filter
-		for _, s := range d.Filter {
-			f = append(f, s)
-		}
-		out = append(out, api.Desc{Node: d.Node, Inc: d.Inc, Age: d.Age, Filter: f})
-	}
-	return out
-}
-
-// isView is the chapter's term by itself, for each pair of descriptors.
-func isView(l []api.Desc, self uint8, room int) bool {
-	if room < 0 || len(l) > room {
-		return false
-	}
-	for i := range l {
-		if l[i].Node == self || l[i].Inc < 1 {
-			return false
-		}
-		for j := range i {
-			if l[j].Node >= l[i].Node {
-				return false
-			}
-		}
-	}
-	return true
-}
-
-// find is the chapter's term by itself, one by one.
-func find(l []api.Desc, node uint8) int {
-	for i := range l {
-		if l[i].Node == node {
-			return i
-		}
-	}
-	return -1
-}
-
-// isNewer is the chapter's term by itself, in one number that is greater for the newer one.
-func isNewer(a, b api.Desc) bool {
-	return int(a.Inc)*256-int(a.Age) > int(b.Inc)*256-int(b.Age)
-}
-
 // put is the chapter's term by itself.
 func put(l []api.Desc, d api.Desc, self uint8, room int) ([]api.Desc, bool) {
-	at := find(l, d.Node)
-	if d.Node == self || d.Inc == 0 || at >= 0 && !isNewer(d, l[at]) {
+	if !desctest.Accepts(l, d, self, room) {
 		return l, false
 	}
-	if at < 0 && len(l) >= room {
-		return l, false
-	}
-	got, done := []api.Desc{}, false
-	for _, x := range l {
-		if !done && x.Node >= d.Node {
-			got, done = append(got, d), true
-		}
-		if x.Node != d.Node {
-			got = append(got, x)
-		}
-	}
-	if !done {
-		got = append(got, d)
-	}
-	return got, true
-}
-
-// drop is the chapter's term by itself.
-func drop(l []api.Desc, node uint8) []api.Desc {
-	got := []api.Desc{}
-	for _, d := range l {
-		if d.Node != node {
-			got = append(got, d)
-		}
-	}
-	return got
+	return desctest.With(l, d), true
 }
 
 // older is the chapter's term by itself.
 func older(l []api.Desc) []api.Desc {
-	got := copied(l)
+	got := desctest.Copied(l)
 	for i := range got {
 		if got[i].Age < 255 {
 			got[i].Age++
@@ -159,7 +56,7 @@ func views() [][]api.Desc {
 	for node := uint8(1); node <= 4; node++ {
 		for _, l := range slices.Clone(list) {
 			for _, d := range []api.Desc{desc(node, 1, 0), desc(node, 1, 4), desc(node, 2, 4), bare(node, 2, 255)} {
-				list = append(list, append(copied(l), d))
+				list = append(list, append(desctest.Copied(l), d))
 			}
 		}
 	}
@@ -188,48 +85,11 @@ func long() [][]api.Desc {
 func others() [][]api.Desc {
 	list := [][]api.Desc{{desc(1, 0, 3)}, {{}, {}}, {desc(3, 1, 1), desc(3, 1, 1), desc(3, 2, 1)}, {desc(4, 1, 1), desc(3, 1, 1), desc(2, 1, 1), desc(1, 1, 1)}, {desc(255, 1, 255), desc(0, 0, 0), desc(255, 1, 0)}}
 	for _, l := range long() {
-		down := copied(l)
+		down := desctest.Copied(l)
 		slices.Reverse(down)
-		list = append(list, down, append(copied(l), copied(l)...))
+		list = append(list, down, append(desctest.Copied(l), desctest.Copied(l)...))
 	}
 	return list
-}
-
-// full returns l as a slice with spare capacity, its filters, too, and all its memory.
-func full(l []api.Desc) (part, whole []api.Desc) {
-	whole = append(copied(l), desc(9, 9, 9), desc(9, 9, 9), desc(9, 9, 9), desc(9, 9, 9))
-	for i := range l {
-		whole[i].Filter = fullFilter(whole[i].Filter)
-	}
-	return whole[:len(l)], whole
-}
-
-func fullFilter(f api.Filter) api.Filter {
-	return append(slices.Clone(f), span(77, 77), span(77, 77), span(77, 77))[:len(f)]
-}
-
-// memory is all of the memory of a list as one text of numbers.
-func memory(l []api.Desc) []int64 {
-	var out []int64
-	for _, d := range l[:cap(l)] {
-		out = append(out, int64(d.Node), int64(d.Inc), int64(d.Age), int64(len(d.Filter)), int64(cap(d.Filter)))
-		for _, s := range d.Filter[:cap(d.Filter)] {
-			out = append(out, int64(s.From), int64(s.To))
-		}
-	}
-	return out
-}
-
-// fill writes x into all of the memory of a list, and of its filters.
-func fill(l []api.Desc, x uint8) {
-	l = l[:cap(l)]
-	for i := range l {
-		f := l[i].Filter[:cap(l[i].Filter)]
-		for j := range f {
-			f[j] = span(int32(x), -int32(x))
-		}
-		l[i] = api.Desc{Node: x, Inc: uint16(x), Age: x, Filter: f}
-	}
 }
 
 // P9.1
@@ -284,7 +144,7 @@ func TestSameOfMany(t *testing.T) {
 
 func TestSameLooksAtSpansAlone(t *testing.T) {
 	long := api.Filter{span(1, 2), span(3, 4), span(5, 6)}
-	a, b := api.Desc{Filter: long[:1]}, api.Desc{Filter: fullFilter(api.Filter{span(1, 2)})}
+	a, b := api.Desc{Filter: long[:1]}, api.Desc{Filter: desctest.RoomyFilter(api.Filter{span(1, 2)})}
 	if !Same(a, b) {
 		t.Error("what is behind the end counts")
 	}
@@ -301,14 +161,14 @@ func TestCopy(t *testing.T) {
 		t.Error(got)
 	}
 	for _, l := range slices.Concat(views(), long(), others()) {
-		want := copied(l)
-		if got := Copy(l); !sameLists(got, want) {
+		want := desctest.Copied(l)
+		if got := Copy(l); !desctest.Same(got, want) {
 			t.Fatal(l, got)
 		}
 	}
 	for _, f := range filters() {
 		l := []api.Desc{{Node: 3, Inc: 2, Age: 1, Filter: f}, {Node: 1, Filter: f}}
-		if got := Copy(l); !sameLists(got, copied(l)) {
+		if got := Copy(l); !desctest.Same(got, desctest.Copied(l)) {
 			t.Error(l, got)
 		}
 	}
@@ -318,7 +178,7 @@ func TestCopyIsDeep(t *testing.T) {
 	l := []api.Desc{desc(1, 1, 1), desc(2, 2, 2)}
 	got := Copy(l)
 	l[0].Filter[0], l[1].Filter[1], l[1].Node = span(8, 8), span(8, 8), 8
-	if !sameLists(got, []api.Desc{desc(1, 1, 1), desc(2, 2, 2)}) {
+	if !desctest.Same(got, []api.Desc{desc(1, 1, 1), desc(2, 2, 2)}) {
 		t.Error(got)
 	}
 	shared := api.Filter{span(1, 1)}
@@ -355,7 +215,7 @@ func TestRightOfMany(t *testing.T) {
 	for _, l := range slices.Concat(views(), long(), others()) {
 		for _, self := range []uint8{0, 1, 2, 3, 4, 5, 100, 128, 255} {
 			for _, room := range append(slices.Clone(rooms), len(l)-1, len(l), len(l)+1) {
-				if got := Right(l, self, room); got != isView(l, self, room) {
+				if got := Right(l, self, room); got != desctest.IsView(l, self, room) {
 					t.Fatal(l, self, room, got)
 				}
 			}
@@ -384,7 +244,7 @@ func TestRightOfAllSmallLists(t *testing.T) {
 	for _, l := range small() {
 		for self := range uint8(4) {
 			for room := -1; room <= 4; room++ {
-				if got := Right(l, self, room); got != isView(l, self, room) {
+				if got := Right(l, self, room); got != desctest.IsView(l, self, room) {
 					t.Fatal(l, self, room, got)
 				}
 			}
@@ -420,7 +280,7 @@ func TestDrop(t *testing.T) {
 		{nil, 0, nil}, {[]api.Desc{}, 3, nil}, {two, 1, two[1:]}, {two, 3, two[:1]}, {two, 0, two}, {two, 2, two}, {two, 4, two}, {two, 255, two}, {two[:1], 1, nil}, {two[:1], 3, two[:1]},
 		{[]api.Desc{bare(0, 1, 0), bare(255, 1, 0)}, 255, []api.Desc{bare(0, 1, 0)}}, {[]api.Desc{bare(0, 1, 0), bare(255, 1, 0)}, 0, []api.Desc{bare(255, 1, 0)}},
 	} {
-		if got := Drop(x.l, x.node); !sameLists(got, x.want) {
+		if got := Drop(x.l, x.node); !desctest.Same(got, x.want) {
 			t.Error(i, x, got)
 		}
 	}
@@ -429,13 +289,13 @@ func TestDrop(t *testing.T) {
 func TestFindAndDropOfMany(t *testing.T) {
 	for _, l := range append(views(), long()...) {
 		for node := range 256 {
-			if got := Find(l, uint8(node)); got != find(l, uint8(node)) {
+			if got := Find(l, uint8(node)); got != desctest.Find(l, uint8(node)) {
 				t.Fatal(l, node, got)
 			}
 			if len(l) > 4 && node%5 > 0 || len(l) <= 4 && node > 6 {
 				continue
 			}
-			if got := Drop(l, uint8(node)); !sameLists(got, drop(l, uint8(node))) {
+			if got := Drop(l, uint8(node)); !desctest.Same(got, desctest.Without(l, uint8(node))) {
 				t.Fatal(l, node, got)
 			}
 		}
@@ -443,7 +303,7 @@ func TestFindAndDropOfMany(t *testing.T) {
 }
 
 func TestWhatIsBehindTheEndIsNotThere(t *testing.T) {
-	part, _ := full([]api.Desc{desc(1, 1, 4), desc(3, 1, 4)})
+	part := desctest.Roomy([]api.Desc{desc(1, 1, 4), desc(3, 1, 4)})
 	if got := Find(part, 9); got != -1 {
 		t.Error(got)
 	}
@@ -453,7 +313,7 @@ func TestWhatIsBehindTheEndIsNotThere(t *testing.T) {
 	if got := Oldest(part); got != 0 {
 		t.Error(got)
 	}
-	if got, ok := Put(part, desc(9, 1, 1), 0, 3); !ok || !sameLists(got, []api.Desc{desc(1, 1, 4), desc(3, 1, 4), desc(9, 1, 1)}) {
+	if got, ok := Put(part, desc(9, 1, 1), 0, 3); !ok || !desctest.Same(got, []api.Desc{desc(1, 1, 4), desc(3, 1, 4), desc(9, 1, 1)}) {
 		t.Error(got, ok)
 	}
 }
@@ -496,7 +356,7 @@ func TestPut(t *testing.T) {
 		{nil, desc(1, 1, 0), 0, 1, []api.Desc{desc(1, 1, 0)}, true}, {[]api.Desc{}, desc(0, 1, 0), 3, 1, []api.Desc{desc(0, 1, 0)}, true}, {nil, bare(1, 1, 0), 0, math.MaxInt, []api.Desc{bare(1, 1, 0)}, true},
 		{nil, desc(1, 1, 0), 0, 0, nil, false}, {nil, desc(1, 1, 0), 0, -1, nil, false}, {nil, desc(1, 1, 0), 0, math.MinInt, nil, false}, {nil, desc(1, 1, 0), 1, 1, nil, false}, {nil, desc(1, 0, 0), 0, 1, nil, false}, {nil, api.Desc{}, 1, 1, nil, false},
 	} {
-		if got, ok := Put(x.l, x.d, x.self, x.room); ok != x.ok || !sameLists(got, x.want) {
+		if got, ok := Put(x.l, x.d, x.self, x.room); ok != x.ok || !desctest.Same(got, x.want) {
 			t.Error(i, x, got, ok)
 		}
 	}
@@ -505,15 +365,15 @@ func TestPut(t *testing.T) {
 func TestAnotherFilterIsNotNewer(t *testing.T) {
 	l := []api.Desc{{Node: 1, Inc: 2, Age: 3, Filter: api.Filter{span(1, 1)}}}
 	d := api.Desc{Node: 1, Inc: 2, Age: 3, Filter: api.Filter{span(2, 2)}}
-	if got, ok := Put(l, d, 0, 2); ok || !sameLists(got, copied(l)) {
+	if got, ok := Put(l, d, 0, 2); ok || !desctest.Same(got, desctest.Copied(l)) {
 		t.Error(got, ok)
 	}
 	d.Age = 2
-	if got, ok := Put(l, d, 0, 2); !ok || !sameLists(got, []api.Desc{d}) {
+	if got, ok := Put(l, d, 0, 2); !ok || !desctest.Same(got, []api.Desc{d}) {
 		t.Error(got, ok)
 	}
 	d.Filter = nil
-	if got, ok := Put(l, d, 0, 2); !ok || !sameLists(got, []api.Desc{bare(1, 2, 2)}) {
+	if got, ok := Put(l, d, 0, 2); !ok || !desctest.Same(got, []api.Desc{bare(1, 2, 2)}) {
 		t.Error(got, ok)
 	}
 }
@@ -525,7 +385,7 @@ func TestPutOfMany(t *testing.T) {
 				for node := range uint8(7) {
 					for _, d := range []api.Desc{desc(node, 0, 0), desc(node, 1, 0), desc(node, 1, 3), desc(node, 1, 4), desc(node, 2, 4), bare(node, 2, 254), desc(node, 3, 255)} {
 						want, done := put(l, d, self, room)
-						if got, ok := Put(l, d, self, room); ok != done || !sameLists(got, want) {
+						if got, ok := Put(l, d, self, room); ok != done || !desctest.Same(got, want) {
 							t.Fatal(l, d, self, room, got, ok)
 						}
 					}
@@ -541,7 +401,7 @@ func TestPutIntoLongViews(t *testing.T) {
 			d := desc(uint8(node), uint16(node%4), uint8(node/2))
 			for _, room := range []int{len(l), len(l) + 1, math.MaxInt} {
 				want, done := put(l, d, 100, room)
-				if got, ok := Put(l, d, 100, room); ok != done || !sameLists(got, want) {
+				if got, ok := Put(l, d, 100, room); ok != done || !desctest.Same(got, want) {
 					t.Fatal(l, d, room, got, ok)
 				}
 			}
@@ -560,7 +420,7 @@ func TestNewerForEachPair(t *testing.T) {
 					if newer {
 						want = d
 					}
-					if got, ok := Put(l, d, 0, 1); ok != newer || !sameLists(got, []api.Desc{want}) {
+					if got, ok := Put(l, d, 0, 1); ok != newer || !desctest.Same(got, []api.Desc{want}) {
 						t.Fatal(l, d, got, ok)
 					}
 				}
@@ -578,7 +438,7 @@ func TestOlder(t *testing.T) {
 		{[]api.Desc{bare(1, 1, 255)}, []api.Desc{bare(1, 1, 255)}}, {[]api.Desc{bare(1, 1, 254)}, []api.Desc{bare(1, 1, 255)}}, {[]api.Desc{bare(1, 1, 253)}, []api.Desc{bare(1, 1, 254)}}, {[]api.Desc{bare(1, 1, 0)}, []api.Desc{bare(1, 1, 1)}},
 		{[]api.Desc{bare(1, 1, 255), bare(2, 1, 0), bare(9, 7, 254)}, []api.Desc{bare(1, 1, 255), bare(2, 1, 1), bare(9, 7, 255)}},
 	} {
-		if got := Older(x.l); !sameLists(got, x.want) {
+		if got := Older(x.l); !desctest.Same(got, x.want) {
 			t.Error(i, x, got)
 		}
 	}
@@ -592,7 +452,7 @@ func TestOlderOfEachAge(t *testing.T) {
 		}
 	}
 	for _, l := range append(views(), long()...) {
-		if got := Older(l); !sameLists(got, older(l)) {
+		if got := Older(l); !desctest.Same(got, older(l)) {
 			t.Fatal(l, got)
 		}
 	}
@@ -661,7 +521,7 @@ func TestResultsAreViews(t *testing.T) {
 			default:
 				l, _ = Put(l, desc(node, uint16(draw.Intn(4)), uint8(draw.Intn(4))), self, room)
 			}
-			if !Right(l, self, room) || !isView(l, self, room) {
+			if !Right(l, self, room) || !desctest.IsView(l, self, room) {
 				t.Fatal(l, self, room)
 			}
 		}
@@ -671,14 +531,14 @@ func TestResultsAreViews(t *testing.T) {
 func TestPuttingAgainChangesNothing(t *testing.T) {
 	for _, l := range views() {
 		for _, d := range l {
-			if got, ok := Put(l, d, 0, 4); ok || !sameLists(got, l) {
+			if got, ok := Put(l, d, 0, 4); ok || !desctest.Same(got, l) {
 				t.Fatal(l, d, got, ok)
 			}
 		}
 		for node := range uint8(6) {
 			for _, d := range []api.Desc{desc(node, 1, 2), desc(node, 3, 2), desc(node, 0, 2)} {
 				once, _ := Put(l, d, 0, 4)
-				if twice, ok := Put(once, d, 0, 4); ok || !sameLists(once, twice) {
+				if twice, ok := Put(once, d, 0, 4); ok || !desctest.Same(once, twice) {
 					t.Fatal(l, d, once, twice, ok)
 				}
 			}
@@ -693,7 +553,7 @@ func TestTheNewerOneIsThere(t *testing.T) {
 				a := desc(3, inc, age)
 				for _, b := range []api.Desc{desc(3, inc, 9), desc(3, 7, age), desc(3, 300, 0), desc(3, 1, 255)} {
 					want := a
-					if isNewer(b, a) {
+					if b.Inc > a.Inc || b.Inc == a.Inc && b.Age < a.Age {
 						want = b
 					}
 					for _, pair := range [][]api.Desc{{a, b}, {b, a}} {
@@ -756,73 +616,12 @@ func results(l []api.Desc, d api.Desc) [][]api.Desc {
 	return [][]api.Desc{wide, narrow, self, Copy(l), Drop(l, d.Node), Drop(l, 77), Older(l)}
 }
 
-// cases are lists and descriptors for the tests of memory.
-func cases() ([][]api.Desc, []api.Desc) {
-	return append(views()[:200], long()...), []api.Desc{desc(1, 1, 3), desc(3, 3, 9), desc(6, 1, 1), desc(2, 0, 0), bare(0, 1, 0)}
-}
-
-func TestArgumentsStay(t *testing.T) {
-	lists, descs := cases()
-	for _, l := range lists {
-		for _, d := range descs {
-			part, _ := full(l)
-			d.Filter = fullFilter(d.Filter)
-			before, was := memory(part), memory([]api.Desc{d})
-			results(part, d)
-			if !slices.Equal(memory(part), before) || !slices.Equal(memory([]api.Desc{d}), was) {
-				t.Fatal(l, d)
-			}
-		}
-	}
-}
-
-func TestResultsAreTheirOwn(t *testing.T) {
-	lists, descs := cases()
-	for _, l := range lists {
-		for _, d := range descs {
-			part, whole := full(l)
-			given := d
-			given.Filter = fullFilter(d.Filter)
-			got, want := results(part, given), results(copied(l), d)
-			fill(whole, 70)
-			fill([]api.Desc{given}, 70)
-			for i := range got {
-				if !sameLists(got[i], want[i]) {
-					t.Fatal("memory of an argument", i, l, d, got[i])
-				}
-			}
-			before := memory(part)
-			for i := range got {
-				fill(got[i], uint8(80+i))
-			}
-			if !slices.Equal(memory(part), before) || given.Filter[:1][0] != span(70, -70) {
-				t.Fatal("memory of an argument", l, d)
-			}
-		}
-	}
-}
-
-func TestResultsDoNotShare(t *testing.T) {
-	lists, descs := cases()
-	for _, l := range lists {
-		for _, d := range descs {
-			first, second, want := results(l, d), results(l, d), results(copied(l), d)
-			for i := range first {
-				fill(first[i], 80)
-				if !sameLists(second[i], want[i]) {
-					t.Fatal(i, l, d)
-				}
-			}
-			for i, list := range second {
-				for j := range list {
-					f := list[j].Filter
-					for k := range f[:cap(f)] {
-						f[:cap(f)][k] = span(90, 90)
-					}
-					if j+1 < len(list) && !sameLists(list[j+1:], want[i][j+1:]) {
-						t.Fatal("two filters of one result", i, l, d)
-					}
-				}
+func TestMemory(t *testing.T) {
+	for _, l := range append(views()[:200], long()...) {
+		for _, d := range []api.Desc{desc(1, 1, 3), desc(3, 3, 9), desc(6, 1, 1), desc(2, 0, 0), bare(0, 1, 0)} {
+			fault := desctest.Fault([][]api.Desc{l, {d}}, func(args [][]api.Desc) [][]api.Desc { return results(args[0], args[1][0]) })
+			if fault != "" {
+				t.Fatal(fault, l, d)
 			}
 		}
 	}
